@@ -1,0 +1,1 @@
+"""Cacaoworks: vats, pipes and valves turned. The calls are in cacaoworks.plant."""
