@@ -1,7 +1,12 @@
 """What flows through joined pipes, and what they want."""
 
 from cacaoworks.joins import joined_nodes, joined_pipes
-from cacaoworks.moment import EMPTY, FULL, brought, filled, is_vat, product_in, room_left
+from cacaoworks.moment import EMPTY, FULL, filled, is_vat, moved, product_in, room_left
+
+
+# The kilos that these pipes have if they're full.
+def kilos_in(moment, pipes):
+    return sum([moment.layout.pipes[pipe][2] for pipe in pipes])
 
 
 # Those of the pipes that aren't full.
@@ -11,7 +16,7 @@ def unfilled(moment, pipes):
 
 # The kilos that the pipes want till all are full. A film doesn't make it less.
 def kilos_wanted(moment, pipes):
-    return sum([moment.layout.pipes[pipe][2] for pipe in unfilled(moment, pipes)])
+    return kilos_in(moment, unfilled(moment, pipes))
 
 
 # Whether what flows comes to a halt there: at all nodes but tees.
@@ -37,7 +42,7 @@ def mixes(moment, pipes, product):
     return any([content[0] != EMPTY and content[1] != product for content in contents])
 
 
-# What stands against so many kilos coming there, or 0.
+# What stands against so many kilos coming to that node, or 0.
 def goal_refusal(moment, goal, product, kilos):
     if not is_vat(moment, goal):
         return 0
@@ -72,6 +77,6 @@ def flowed(moment, kilos, source, goal):
     product = product_in(moment, source)
     pipes = joined_pipes(moment, source)
     over = kilos - kilos_wanted(moment, pipes)
-    moment = brought(moment, source, product, 0 - kilos)
+    moment = moved(moment, source, product, 0 - kilos)
     moment = filled(moment, pipes, product)
-    return brought(moment, goal, product, over)
+    return moved(moment, goal, product, over)

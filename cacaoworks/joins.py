@@ -15,11 +15,20 @@ def merged(labels, pairs):
     return labels
 
 
+# The numbers of the pipes that join: those in which nothing has set.
+def joining_pipes(moment):
+    return [pipe for pipe, content in enumerate(moment.pipes) if content[0] != SETTLED]
+
+
+# The labels of the nodes as these pipes alone join them.
+def labels_by(layout, pipes):
+    pairs = [(layout.pipes[pipe][0], layout.pipes[pipe][1]) for pipe in pipes]
+    return merged(list(range(len(layout.nodes))), pairs)
+
+
 # The labels of the nodes as pipes alone join them.
 def pipe_labels(moment):
-    layout = moment.layout
-    pairs = [(pipe[0], pipe[1]) for pipe, content in zip(layout.pipes, moment.pipes) if content[0] != SETTLED]
-    return merged(list(range(len(layout.nodes))), pairs)
+    return labels_by(moment.layout, joining_pipes(moment))
 
 
 # The labels when valves at these positions join, too.
@@ -42,8 +51,27 @@ def joined_nodes(moment, node):
 # The numbers of the pipes joined to the node, rising.
 def joined_pipes(moment, node):
     labels = node_labels(moment)
-    ends = [labels[pipe[0]] for pipe in moment.layout.pipes]
-    return [pipe for pipe, label in enumerate(ends) if label == labels[node] and moment.pipes[pipe][0] != SETTLED]
+    pipes = moment.layout.pipes
+    return [pipe for pipe in joining_pipes(moment) if labels[pipes[pipe][0]] == labels[node]]
+
+
+# The labels of the nodes when this pipe joins nothing.
+def labels_without(moment, pipe):
+    others = [other for other in joining_pipes(moment) if other != pipe]
+    return valve_labels(labels_by(moment.layout, others), moment.layout, moment.positions)
+
+
+# Whether without the pipe one of its ends is joined to none of these nodes.
+def is_dead_leg(moment, pipe, nodes):
+    labels = labels_without(moment, pipe)
+    alive = [labels[node] for node in nodes]
+    ends = moment.layout.pipes[pipe]
+    return labels[ends[0]] not in alive or labels[ends[1]] not in alive
+
+
+# The numbers of the dead legs between two joined nodes, rising.
+def dead_legs(moment, node, other):
+    return [pipe for pipe in joined_pipes(moment, node) if is_dead_leg(moment, pipe, (node, other))]
 
 
 # The numbers of the products at nodes joined to this one, rising.

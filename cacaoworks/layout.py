@@ -123,6 +123,14 @@ def pairs_joined(word, nodes):
     return (((nodes[0], nodes[1]),), ((nodes[0], nodes[2]),))
 
 
+# Another layout with the same lines and a line without fault behind them.
+def with_line(layout, line):
+    longer = Layout()
+    for other in layout.lines + [line]:
+        add_line(longer, other)
+    return longer
+
+
 # The layout that the row of bytes is the text of, with the text's fault if it has one.
 def read_layout(row):
     layout = Layout()

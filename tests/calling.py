@@ -65,6 +65,54 @@ def wets(node):
     return [13] + with_count(node)
 
 
+def dead(node, other):
+    return [14] + with_count(node) + with_count(other)
+
+
+def drain(name):
+    return [15] + with_count(name)
+
+
+def wash(name):
+    return [16] + with_count(name)
+
+
+def wait(seconds):
+    return [17, seconds]
+
+
+def melt(name):
+    return [18] + with_count(name)
+
+
+def pipe(name):
+    return [19] + with_count(name)
+
+
+def node(name):
+    return [20] + with_count(name)
+
+
+def sets():
+    return [21]
+
+
+def balance():
+    return [22]
+
+
+def undo():
+    return [23]
+
+
+def redo():
+    return [24]
+
+
+def more(line):
+    return [25] + with_count(line)
+
+
 def split(told, count):
     """The answers, each a list, checked for being as many as the calls."""
     found = []
@@ -99,3 +147,17 @@ def look(names):
     for name in names:
         asked += [joined(name), things(name), wets(name)]
     return asked
+
+
+def seen(calls, nodes, pipes):
+    """What can be seen of the plant behind these calls: one answer for each thing that can be asked of it.
+
+    A list has at most 60 calls, so the asking is done by as many lists as it needs.
+    """
+    asked = [show(), valves(), sets(), balance(), wait(0)]
+    asked += [ask(name) for name in nodes for ask in (joined, things, wets, node)] + [pipe(name) for name in pipes]
+    found = []
+    step = 60 - len(calls)
+    for place in range(0, len(asked), step):
+        found += run(*calls, *asked[place:place + step])[len(calls):]
+    return found

@@ -1,5 +1,6 @@
 """The document's words once more, as slowly and as plainly as they can be said, to hold the program against."""
 
+import copy
 import re
 
 LINES = [
@@ -23,12 +24,47 @@ def match(pattern, line):
 class Model:
     def __init__(self):
         self.begin([])
+        self.states = [self.state()]
+        self.place = 0
 
     def begin(self, lines):
         self.lines = lines
         self.turned = frozenset()
         self.vats = {}
         self.pipes = {}
+        self.clock = 0
+        self.came = {}
+        self.fed = {}
+
+    # Changes: all states in a row, and the place of the one that is now
+
+    def state(self):
+        kept = {name: value for name, value in vars(self).items() if name not in ("states", "place")}
+        return {name: copy.copy(value) for name, value in kept.items()}
+
+    def call(self, name, *parts):
+        """The answer to a call, with the change kept if it is one."""
+        told = getattr(self, name)(*parts)
+        if name not in ("undo", "redo") and self.state() != self.states[self.place]:
+            self.states = (self.states[:self.place + 1] + [self.state()])[-17:]
+            self.place = len(self.states) - 1
+        return told
+
+    def go_to(self, place):
+        vars(self).update({name: copy.copy(value) for name, value in self.states[place].items()})
+        self.place = place
+
+    def undo(self):
+        if self.place == 0:
+            return [-3]
+        self.go_to(self.place - 1)
+        return [0, self.place]
+
+    def redo(self):
+        if self.place == len(self.states) - 1:
+            return [-3]
+        self.go_to(self.place + 1)
+        return [0, len(self.states) - 1 - self.place]
 
     def names(self, words):
         return [line[1] for line in self.lines if line[0] in words]
@@ -45,8 +81,7 @@ class Model:
         lines = []
         pieces = text.split(b"\n")
         for number, piece in enumerate(pieces[:-1]):
-            found = [[word] + parts for word, pattern, least, most in LINES
-                     for parts in [match(pattern, piece)] if parts is not None]
+            found = self.forms(piece)
             kind = self.kind(lines, found)
             if kind:
                 return [-5, kind, number]
@@ -54,6 +89,25 @@ class Model:
         if pieces[-1]:
             return [-5, 1, len(pieces) - 1]
         self.begin(lines)
+        return [0]
+
+    def forms(self, piece):
+        return [[word] + parts for word, pattern, least, most in LINES
+                for parts in [match(pattern, piece)] if parts is not None]
+
+    def more(self, line):
+        if len(line) > 200:
+            return [-1]
+        found = self.forms(bytes(line))
+        kind = self.kind(self.lines, found)
+        if kind:
+            return [-5, kind, len(self.lines)]
+        before = self.lines
+        self.lines = before + found
+        met = self.met(self.turned)
+        if met:
+            self.lines = before
+            return [-9, met[0]]
         return [0]
 
     def kind(self, lines, found):
@@ -83,39 +137,49 @@ class Model:
 
     # What is joined
 
-    def edges(self, turned):
+    def edges(self, turned, without=None):
         for line in self.lines:
-            if line[0] == "pipe":
+            if line[0] == "pipe" and self.what(line[1]) != "set" and line[1] != without:
                 yield line[2], line[3]
             if line[0] == "valve" and line[1] in turned:
                 yield line[2], line[3]
             if line[0] == "three":
                 yield line[2], line[4 if line[1] in turned else 3]
 
-    def group(self, node, turned):
+    def group(self, node, turned, without=None):
         group = {node}
+        edges = list(self.edges(turned, without))
         while True:
-            more = {end for edge in self.edges(turned) if group & set(edge) for end in edge}
+            more = {end for one, other in edges if one in group or other in group for end in (one, other)}
             if more <= group:
                 return group
             group |= more
 
     def at(self, node):
         found = {self.vats[node][0]} if node in self.vats else set()
-        return found | {self.pipes[line[1]] for line in self.lines
+        return found | {self.pipes[line[1]][1] for line in self.lines
                         if line[0] == "pipe" and line[1] in self.pipes and node in line[2:4]}
+
+    def due(self, pipe):
+        """When what is full in the pipe has set or will set, or None. What has set stays written as full."""
+        what, product, since = self.pipes.get(pipe, ("empty", None, None))
+        if what != "full" or self.line(pipe)[5] == "warm" or self.line(product)[2] == "0":
+            return None
+        return since + int(self.line(product)[2])
+
+    def what(self, pipe):
+        if self.due(pipe) is not None and self.due(pipe) <= self.clock:
+            return "set"
+        return self.pipes.get(pipe, ("empty", None, None))[0]
 
     def met(self, turned):
         """The numbers of the aparts that meet."""
-        found = []
-        for number, name in enumerate(self.names(("apart",))):
-            one, other = self.line(name)[2:]
-            for node in self.names(NODES):
-                here = set().union(*[self.at(near) for near in self.group(node, turned)])
-                if {one, other} <= here:
-                    found.append(number)
-                    break
-        return found
+        aparts = [line[2:] for line in self.lines if line[0] == "apart"]
+        if not aparts:
+            return []
+        at = {node: self.at(node) for node in self.names(NODES)}
+        here = [set().union(*[at[near] for near in self.group(node, turned)]) for node in at]
+        return [number for number, pair in enumerate(aparts) if any(set(pair) <= products for products in here)]
 
     def valve_names(self):
         return self.names(("valve", "three"))
@@ -176,6 +240,7 @@ class Model:
         if met:
             self.vats = before
             return [-9, met[0]]
+        self.fed[product] = self.fed.get(product, 0) + kilos
         return [0]
 
     # Wants
@@ -269,13 +334,17 @@ class Model:
 
     def pipes_at(self, node):
         group = self.group(node, self.turned)
-        return [name for name in self.names(("pipe",)) if set(self.line(name)[2:4]) <= group]
+        return [name for name in self.names(("pipe",))
+                if set(self.line(name)[2:4]) <= group and self.what(name) != "set"]
 
     def dry(self, node):
-        return [name for name in self.pipes_at(node) if name not in self.pipes]
+        return [name for name in self.pipes_at(node) if self.what(name) != "full"]
+
+    def load(self, pipes):
+        return sum(int(self.line(name)[4]) for name in pipes)
 
     def wanted(self, node):
-        return sum(int(self.line(name)[4]) for name in self.dry(node))
+        return self.load(self.dry(node))
 
     def wets(self, node):
         if self.word(node) not in self.names(NODES):
@@ -301,7 +370,7 @@ class Model:
             return [-5]
         product, there = self.vats[source]
         pipes = self.pipes_at(source)
-        if any(self.pipes.get(name, product) != product for name in pipes):
+        if any(self.pipes[name][1] != product for name in pipes if name in self.pipes):
             return [-6]
         if there < kilos:
             return [-5]
@@ -316,8 +385,122 @@ class Model:
                 return [-8]
             if over:
                 self.vats[goal] = (product, old[1] + over)
+        else:
+            self.come(goal, product, over)
         self.vats[source] = (product, there - kilos)
         if there == kilos:
             self.vats.pop(source)
-        self.pipes.update({name: product for name in pipes})
+        self.pipes.update({name: ("full", product, self.clock) for name in pipes})
         return [0, over]
+
+    def come(self, node, product, kilos):
+        if kilos:
+            self.came[node, product] = self.came.get((node, product), 0) + kilos
+
+    # What stays in pipes
+
+    def dead(self, node, other):
+        node, other = self.word(node), self.word(other)
+        if not {node, other} <= set(self.names(NODES)):
+            return [-4]
+        if other not in self.group(node, self.turned):
+            return [-3]
+        found = [0]
+        for number, name in enumerate(self.names(("pipe",))):
+            alive = self.group(node, self.turned, name) | self.group(other, self.turned, name)
+            if name in self.pipes_at(node) and not set(self.line(name)[2:4]) <= alive:
+                found.append(number)
+        return found
+
+    def drain_refusal(self, drain):
+        if drain not in self.names(NODES):
+            return [-4]
+        if self.line(drain)[0] != "drain":
+            return [-2]
+        if self.group(drain, self.turned) & set(self.names(("vat", "out", "drain"))) != {drain}:
+            return [-10]
+        return None
+
+    def drain(self, drain):
+        drain = self.word(drain)
+        refusal = self.drain_refusal(drain)
+        if refusal:
+            return refusal
+        full = [name for name in self.pipes_at(drain) if self.what(name) == "full"]
+        for name in full:
+            self.come(drain, self.pipes[name][1], self.load([name]))
+            self.pipes[name] = ("film", self.pipes[name][1], None)
+        return [0, self.load(full)]
+
+    def wash(self, drain):
+        drain = self.word(drain)
+        refusal = self.drain_refusal(drain)
+        if refusal:
+            return refusal
+        pipes = [name for name in self.pipes_at(drain) if name in self.pipes]
+        if any(self.what(name) == "full" for name in pipes):
+            return [-3]
+        for name in pipes:
+            self.pipes.pop(name)
+        return [0, len(pipes)]
+
+    def wait(self, seconds):
+        if self.clock + seconds > 10**9:
+            return [-1]
+        self.clock += seconds
+        return [0, self.clock]
+
+    def melt(self, pipe):
+        pipe = self.word(pipe)
+        if pipe not in self.names(("pipe",)):
+            return [-4]
+        if self.what(pipe) != "set":
+            return [-3]
+        before = dict(self.pipes)
+        self.pipes[pipe] = ("full", self.pipes[pipe][1], self.clock)
+        met = self.met(self.turned)
+        if met:
+            self.pipes = before
+            return [-9, met[0]]
+        return [0]
+
+    # Where everything is
+
+    def product_number(self, product):
+        return self.names(("product",)).index(product)
+
+    def pipe(self, pipe):
+        pipe = self.word(pipe)
+        if pipe not in self.names(("pipe",)):
+            return [-4]
+        if pipe not in self.pipes:
+            return [0, 0]
+        product = self.product_number(self.pipes[pipe][1])
+        return {"film": [0, 1, product], "full": [0, 2, product, self.pipes[pipe][2]], "set": [0, 3, product]}[
+            self.what(pipe)]
+
+    def node(self, node):
+        node = self.word(node)
+        if node not in self.names(NODES):
+            return [-4]
+        if self.line(node)[0] == "tee":
+            return [-2]
+        if self.line(node)[0] == "vat":
+            return [0, self.product_number(self.vats[node][0]), self.vats[node][1]] if node in self.vats else [0]
+        return [0] + [self.came.get((node, product), 0) for product in self.names(("product",))]
+
+    def sets(self):
+        dues = [(self.due(name), number) for number, name in enumerate(self.names(("pipe",)))
+                if self.due(name) is not None and self.what(name) == "full"]
+        return [0] + [number for due, pipe in sorted(dues) for number in (pipe, due)]
+
+    def balance(self):
+        told = [0]
+        for product in self.names(("product",)):
+            told.append(self.fed.get(product, 0))
+            told.append(sum(kilos for name, kilos in self.vats.values() if name == product))
+            told.append(self.load([name for name in self.pipes
+                                   if self.pipes[name][1] == product and self.what(name) != "film"]))
+            for word in ("out", "drain"):
+                told.append(sum(self.came.get((node, product), 0) for node in self.names((word,))))
+        return told

@@ -2,7 +2,7 @@
 
 import unittest
 
-from calling import fill, flow, joined, plan, plant, run, show, turn, valves
+from calling import dead, drain, fill, flow, joined, melt, more, node, pipe, plan, plant, run, show, turn, valves, wash
 from cacaoworks.plant import answers
 
 TEXT = "product x 0\nvat a 9\nout o\nvalve v a o\n"
@@ -20,6 +20,22 @@ class Lists(unittest.TestCase):
     def test_rows_that_look_like_calls(self):
         self.assertEqual(answers([4, 3, 1, 2, 3, 13, 2, 11, 11, 6]), [1, -4, 1, -4, 1, 0])
 
+    def test_the_calls_with_no_rows(self):
+        self.assertEqual(answers([21, 22, 23, 24]), [1, 0, 1, 0, 1, -3, 1, -3])
+        self.assertEqual(answers([17, 5, 17, 0, 23, 24]), [2, 0, 5, 2, 0, 5, 2, 0, 0, 2, 0, 0])
+        self.assertEqual(answers([17, 4294967295, 17, 23, 23]), [1, -1, 2, 0, 23, 2, 0, 0])
+
+    def test_the_calls_with_one_row(self):
+        self.assertEqual(answers([15, 0, 16, 0, 18, 0, 19, 0, 20, 0]), [1, -4] * 5)
+        self.assertEqual(answers([15, 1, 15, 16, 1, 16, 18, 1, 18, 19, 1, 19, 20, 1, 20, 6]), [1, -4] * 5 + [1, 0])
+        self.assertEqual(answers([25, 5] + list(b"tee a") + [7, 1, 97, 25, 0]), [1, 0, 2, 0, 0, 3, -5, 1, 1])
+        self.assertEqual(answers([25, 201] + [25] * 201 + [6]), [1, -1, 1, 0])
+
+    def test_dead_has_two_rows(self):
+        self.assertEqual(answers([14, 0, 0, 6]), [1, -4, 1, 0])
+        self.assertEqual(answers([25, 5] + list(b"tee a") + [14, 1, 97, 1, 97, 14, 1, 97, 2, 14, 14]),
+                         [1, 0, 1, 0, 1, -4])
+
     def test_sixty_calls(self):
         told = run(*([plant(TEXT)] + [turn("v")] * 58 + [valves()]))
         self.assertEqual(told, [[0]] * 59 + [[0, 0]])
@@ -28,6 +44,9 @@ class Lists(unittest.TestCase):
         long = [97] * 9000
         self.assertEqual(run(turn(long), joined(long), fill(1, long, long)), [[-4]] * 3)
         self.assertEqual(run(flow(1, long, long)), [[-4]])
+        self.assertEqual(run(dead(long, long), drain(long)), [[-4]] * 2)
+        self.assertEqual(run(wash(long), melt(long), pipe(long)), [[-4]] * 3)
+        self.assertEqual(run(node(long), more(long)), [[-4], [-1]])
 
     def test_all_bytes(self):
         for byte in range(256):
@@ -52,8 +71,13 @@ class Kept(unittest.TestCase):
         told.clear()
         self.assertEqual(answers(calls), kept)
 
+    def test_changes_are_kept_for_one_list_alone(self):
+        self.assertEqual(answers([17, 5, 17, 5]), [2, 0, 5, 2, 0, 10])
+        self.assertEqual(answers([23, 24, 17, 0]), [1, -3, 1, -3, 2, 0, 0])
+
     def test_the_list_that_is_handed_in_stays(self):
         calls = plant(TEXT) + fill(5, "a", "x") + turn("v") + flow(2, "a", "o") + plan("at v 0\n") + [5, 2, 0, 0]
+        calls += more("drain d") + drain("d") + wash("d") + [17, 5, 23, 23, 24, 21, 22] + dead("a", "o") + melt("p")
         kept = list(calls)
         answers(calls)
         self.assertEqual(calls, kept)

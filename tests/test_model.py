@@ -4,6 +4,7 @@ import random
 import unittest
 
 import calling
+from mixing import Mixer
 from model import Model
 
 
@@ -116,22 +117,52 @@ class Maker:
 def told_by_model(calls):
     model = Model()
     rows = [[calling.row(part) if isinstance(part, str) else part for part in call[1:]] for call in calls]
-    return [getattr(model, call[0])(*parts) for call, parts in zip(calls, rows)]
+    return [model.call(call[0], *parts) for call, parts in zip(calls, rows)]
 
 
 def told_by_program(calls):
     return calling.run(*[getattr(calling, call[0])(*call[1:]) for call in calls])
 
 
+def told_apart(call, answer):
+    """An answer's sort: the call and its refusal, or whether something is told behind the 0."""
+    if answer[0] < 0:
+        return call[0], answer[0]
+    if call[0] == "pipe":
+        return call[0], "has", answer[1]
+    return call[0], "something" if any(answer[1:]) else "nothing"
+
+
+# What the mixed lines must bring about, so that they are worth their while.
+SORTS = {
+    ("drain", "something"), ("drain", -10), ("wash", "something"), ("wash", -3), ("wash", -10), ("wait", -1),
+    ("wait", "something"), ("melt", "nothing"), ("melt", -3), ("pipe", "has", 0), ("pipe", "has", 1),
+    ("pipe", "has", 2), ("pipe", "has", 3), ("node", "something"), ("node", -2), ("sets", "something"),
+    ("balance", "something"), ("undo", "something"), ("undo", -3), ("redo", "something"), ("redo", -3),
+    ("more", "nothing"), ("more", -1), ("more", -5), ("more", -9), ("dead", "something"), ("dead", "nothing"),
+    ("dead", -3), ("dead", -4), ("flow", "something"), ("flow", -6), ("flow", -7), ("flow", -8), ("flow", -10),
+    ("fill", -9), ("turn", -9), ("turns", -9), ("plan", -7), ("lifted", "something"), ("lifted", -8),
+}
+
+
 class AgainstTheModel(unittest.TestCase):
-    def check(self, seed):
-        calls = Maker(seed).line()
+    def check(self, seed, calls):
+        """The sorts of answers, when program and model tell the same."""
+        found = set()
         for call, told, wanted in zip(calls, told_by_program(calls), told_by_model(calls)):
             self.assertEqual(told, wanted, (seed, call))
+            found.add(told_apart(call, told))
+        return found
 
     def test_many_lines_of_calls(self):
         for seed in range(150):
-            self.check(seed)
+            self.check(seed, Maker(seed).line())
+
+    def test_many_mixed_lines_of_all_calls(self):
+        found = set()
+        for seed in range(150):
+            found |= self.check(seed, Mixer(seed).line())
+        self.assertEqual(SORTS - found, set())
 
 
 if __name__ == "__main__":

@@ -1,11 +1,11 @@
-"""Films and set pipes, which no call brings about yet: what they join, where they are, what they want."""
+"""A plant at one moment: what films and set pipes join, where they are, what they want; that it stays as it is."""
 
 import unittest
 
 from cacaoworks.flows import flow_refusal, flowed, kilos_wanted, unfilled
 from cacaoworks.joins import joined_nodes, joined_pipes, joined_products, met_at
 from cacaoworks.layout import read_layout
-from cacaoworks.moment import EMPTY, FILM, FULL, SETTLED, Moment, beginning, brought, lined_up, turned
+from cacaoworks.moment import EMPTY, FILM, FULL, SETTLED, beginning, brought, lined_up, turned
 from cacaoworks.plans import Lineups, count_reached, find_plan
 
 TEXT = (
@@ -17,7 +17,9 @@ TEXT = (
 def with_pipes(*contents):
     """The plant of the text at its beginning, but with these contents of its pipes."""
     moment = beginning(read_layout(list(TEXT)))
-    return Moment(moment.layout, moment.positions, contents, moment.held, 7)
+    moment.pipes = contents
+    moment.clock = 7
+    return moment
 
 
 def open_up(moment, *valves):
